@@ -1,0 +1,1 @@
+"""Packdelta: many versions of a text in one pack."""
